@@ -1,0 +1,1 @@
+"""Who sees what over a net that loses."""
