@@ -12,6 +12,7 @@ MOST_LETTERS = 30
 ABOVE_HIGHEST = -1
 NONE_SUCH = -2
 TOO_MANY = -5
+NO_VIEW = -6
 
 THING = 0
 GONE = 1
@@ -20,9 +21,15 @@ TICK = 3
 ARRIVE = 4
 LOSE = 5
 WORD_ARRIVES = 6
+WORD_LOST = 7
+SEES = 8
+HAS = 9
+ON_THE_WAY = 10
+WOULD = 11
+STATE = 12
 
 # At a call's number stands how many whole numbers follow it.
-NUMBERS_OF_CALL = (5, 1, 2, 0, 1, 1, 1)
+NUMBERS_OF_CALL = (5, 1, 2, 0, 1, 1, 1, 1, 1, 1, 0, 1, 0)
 
 
 class Thing:
@@ -48,6 +55,15 @@ def view_of(things, own, far):
         if number == own or (thing.hidden == 0 and is_near(thing, eye, far)):
             view[number] = (thing.column, thing.row, thing.look)
     return view
+
+
+def told_view(view):
+    told = [len(view)]
+    # A client's view has its things in the order in which letters brought them.
+    for number in sorted(view):
+        told.append(number)
+        told.extend(view[number])
+    return told
 
 
 def put_between(first, second):
@@ -115,6 +131,9 @@ class Player:
         # Tick 0 stands for nothing sent yet, so that a letter since 0 needs no case of its own.
         self.sent = {0: {}}
         self.client = Client()
+
+    def sent_since_known(self):
+        return len([tick for tick in self.sent if tick > self.known])
 
 
 class Word:
@@ -199,6 +218,59 @@ class Server:
         player.known = max(player.known, word.tick)
         return [word.sender, player.known]
 
+    def word_lost(self, place):
+        if place >= len(self.words):
+            return [NONE_SUCH]
+        self.words.pop(place)
+        return [len(self.words)]
+
+    def sees(self, number):
+        if number >= len(self.players):
+            return [NONE_SUCH]
+        return told_view(self.view_now(self.players[number]))
+
+    def has(self, number):
+        if number >= len(self.players):
+            return [NONE_SUCH]
+        views = self.players[number].client.views
+        if len(views) == 0:
+            return [NO_VIEW]
+        newest = max(views)
+        return [newest, len(views)] + told_view(views[newest])
+
+    def on_the_way(self):
+        told = [len(self.letters)]
+        for letter in self.letters:
+            told.extend([letter.receiver, letter.tick, letter.since, letter.size()])
+        told.append(len(self.words))
+        for word in self.words:
+            told.extend([word.sender, word.tick])
+        return told
+
+    def would(self, number):
+        if number >= len(self.players):
+            return [NONE_SUCH]
+        letter = self.next_letter(number)
+        return [letter.tick, letter.since] + told_view(letter.put) + [len(letter.gone)] + letter.gone
+
+    def state(self):
+        told = [self.ticks + 1, len(self.things), len(self.players)]
+        for player in self.players:
+            told.extend([player.known, player.sent_since_known(), len(player.client.views)])
+        return told
+
+
+def answer_of_asking(server, call, numbers):
+    if call == SEES:
+        return server.sees(numbers[0])
+    if call == HAS:
+        return server.has(numbers[0])
+    if call == ON_THE_WAY:
+        return server.on_the_way()
+    if call == WOULD:
+        return server.would(numbers[0])
+    return server.state()
+
 
 def answer_of(server, call, numbers):
     if call == THING:
@@ -213,7 +285,11 @@ def answer_of(server, call, numbers):
         return server.letter_arrives(numbers[0])
     if call == LOSE:
         return server.letter_lost(numbers[0])
-    return server.word_arrives(numbers[0])
+    if call == WORD_ARRIVES:
+        return server.word_arrives(numbers[0])
+    if call == WORD_LOST:
+        return server.word_lost(numbers[0])
+    return answer_of_asking(server, call, numbers)
 
 
 def answers(calls):

@@ -6,6 +6,8 @@ from losingnet.views import answers
 
 LARGEST = 4294967295
 TICK = [3]
+ON_THE_WAY = [10]
+STATE = [12]
 
 
 def thing(number, column=0, row=0, look=0, hidden=0):
@@ -30,6 +32,22 @@ def lose(letter):
 
 def word_arrives(word):
     return [6, word]
+
+
+def word_lost(word):
+    return [7, word]
+
+
+def sees(number):
+    return [8, number]
+
+
+def has(number):
+    return [9, number]
+
+
+def would(number):
+    return [11, number]
 
 
 def joined(calls):

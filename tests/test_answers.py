@@ -1,5 +1,7 @@
 """The form of the list that is handed in and of the one that is given back."""
 
+import contextlib
+import io
 import unittest
 
 from asking import LARGEST, Asking, thing
@@ -18,6 +20,17 @@ ALL_CALLS = [
     3,
     1, 5,
     4, LARGEST,
+    8, 1,
+    9, 1,
+    9, 0,
+    10,
+    11, 0,
+    11, 1,
+    12,
+    4, 1,
+    7, 0,
+    7, 0,
+    8, 2,
 ]
 ALL_ANSWERS = [
     1, 1,
@@ -30,6 +43,17 @@ ALL_ANSWERS = [
     2, 1, 1,
     1, 1,
     4, 2, 2, 0, 1,
+    1, -2,
+    1, -2,
+    5, 1, 6, 2, 2, 9,
+    11, 1, 1, 2, 5, 1, 2, 3, 6, 2, 2, 9,
+    1, -6,
+    10, 2, 0, 2, 0, 0, 1, 2, 1, 1, 0,
+    4, 3, 0, 0, 0,
+    5, 3, 1, 0, 1, 5,
+    9, 3, 1, 2, 0, 2, 0, 1, 1, 1,
+    3, 1, 2, 1,
+    1, 0,
     1, -2,
     1, -2,
 ]
@@ -51,6 +75,9 @@ class Answers(Asking):
         self.assertEqual(answers([3]), [2, 1, 0])
         self.assertEqual(answers([3]), [2, 1, 0])
         self.assertEqual(answers([1, 6]), [1, -2])
+        self.assertEqual(answers([12]), [3, 1, 0, 0])
+        self.assertEqual(answers([10]), [2, 0, 0])
+        self.assertEqual(answers([9, 0]), [1, -2])
 
     def test_a_new_list_is_given_back(self):
         self.assertIsNot(answers(ALL_CALLS), answers(ALL_CALLS))
@@ -62,6 +89,22 @@ class Answers(Asking):
     def test_a_list_of_one_call(self):
         self.assertEqual(answers([3]), [2, 1, 0])
         self.assertEqual(answers([2, 99, 99]), [1, 0])
+        self.assertEqual(answers([7, 0]), [1, -2])
+        self.assertEqual(answers([8, 0]), [1, -2])
+        self.assertEqual(answers([9, 0]), [1, -2])
+        self.assertEqual(answers([10]), [2, 0, 0])
+        self.assertEqual(answers([11, 0]), [1, -2])
+        self.assertEqual(answers([12]), [3, 1, 0, 0])
+
+    def test_a_long_list_is_gone_through_by_loops(self):
+        # More calls than a list has, and more than Python allows within one another.
+        self.assertEqual(answers([12] * 5000), [3, 1, 0, 0] * 5000)
+
+    def test_nothing_is_printed(self):
+        said = io.StringIO()
+        with contextlib.redirect_stdout(said), contextlib.redirect_stderr(said):
+            answers(ALL_CALLS)
+        self.assertEqual(said.getvalue(), "")
 
     def test_240_numbers_in_40_calls(self):
         calls = [number for n in range(40) for number in thing(n % 20, n)]
